@@ -1,0 +1,1 @@
+"""Modulehall: a module system in miniature."""
