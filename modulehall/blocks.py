@@ -43,6 +43,14 @@ def call_names(row):
     return list(row[2]) + written
 
 
+def own_declared(rows, word):
+    """Return the names that a module's rows declare with a word, show or hide, or None if they do not have it."""
+    for row in rows:
+        if row[0] == word:
+            return row[1]
+    return None
+
+
 def bindings(rows, kept=None):
     """Return the pairs of a name of the module and the row that binds it, in the order of the rows.
 

@@ -1,0 +1,23 @@
+"""How each path of a shelf would load."""
+
+from modulehall.errors import BadShelf, Fell
+from modulehall.shelves import Shelf
+from modulehall.worlds import MOST, World, check_most
+
+
+def entries(shelf, *, most=MOST):
+    """Return pairs of a path and how a new world loads it, for all paths of a shelf, in order."""
+    if not isinstance(shelf, Shelf):
+        raise BadShelf("not a shelf")
+    check_most(most)
+    return [(path, entry(shelf, path, most)) for path in shelf.paths()]
+
+
+def entry(shelf, path, most):
+    """Return how a new world that has only a shelf loads a path."""
+    world = World({"only": shelf}, most=most)
+    try:
+        world.load(path)
+    except Fell as fell:
+        return ("fell", fell.word, fell.path)
+    return ("whole", list(world.realm.wholes))
