@@ -94,24 +94,22 @@ def from_alls(rows):
 def offers(shelf, path, name, examined):
     """Tell whether a from-all of a module that is found binds a name.
 
-    A from-all that leads back to a path that is examined already, also to the path `examined`, whose bindings of the
-    name are asked for, yields none.
+    The show of a module decides alone. Of modules without one, those that are examined already, and the path
+    `examined`, whose bindings of the name are asked for, yield none.
     """
     passed = {examined: True}
     waiting = [path]
     while len(waiting) > 0:
         path = waiting.pop()
-        if path in passed:
-            continue
-        passed[path] = True
         sort, rows = module_on(shelf, path)
         shown = own_declared(rows, "show")
         if shown is not None:
             if name in shown:
                 return True
-        elif name not in (own_declared(rows, "hide") or ()):
+        elif path not in passed and name not in (own_declared(rows, "hide") or ()):
             if len(own_senses(shelf, path, name)) > 0:
                 return True
             sources = [source(path, sort, row) for row in from_alls(rows)]
             waiting.extend([each for each in sources if is_found(shelf, each)])
+        passed[path] = True
     return False

@@ -278,8 +278,24 @@ class FromAlls(unittest.TestCase):
         self.assertEqual((means(modules), means(modules, "b")), (("own", A, "x"), ("own", A, "x")))
         self.assertEqual(means({"a": plain(let("x"), take_all("a"))}), ("own", A, "x"))
         self.assertEqual(means({"a": plain(let("x"), take_all("a", dots=1)), "b": plain()}), ("own", A, "x"))
-        modules = {"a": plain(("show", ("x",)), let("x"), take_all("b")), "b": plain(take_all("a"))}
-        self.assertEqual((means(modules), means(modules, "b")), (("own", A, "x"), ("own", A, "x")))
+
+    def test_a_from_all_that_returns_to_a_show(self):
+        # The show decides alone: the from-all is a binding, although it leads back to the name that is asked for.
+        show = ("show", ("x",))
+        self.assertEqual(means({"b": plain(take_all("b"), let("x"), show)}, "b"), MANY)
+        self.assertEqual(means({"b": plain(take_all("b"), show)}, "b"), RING)
+        self.assertEqual(means({"b": plain(take_all("b"), let("x"), ("show", ("y",)))}, "b"), ("own", B, "x"))
+        self.assertEqual(means({"b": package(take_all("", dots=1), let("x"), show)}, "b"), MANY)
+
+    def test_a_from_all_that_returns_to_a_show_through_another_module(self):
+        modules = {"a": plain(take_all("b")), "b": plain(take_all("a"), let("x"), ("show", ("x",)))}
+        self.assertEqual((means(modules, "b"), means(modules)), (MANY, MANY))
+        modules["b"] = plain(take_all("a"), ("show", ("x",)))
+        self.assertEqual((means(modules, "b"), means(modules)), (RING, RING))
+        modules["b"] = plain(take_all("a"), let("x"), ("show", ("y",)))
+        self.assertEqual((means(modules, "b"), means(modules)), (("own", B, "x"), NONE))
+        modules = {"a": plain(take_all("b"), ("hide", ("x",))), "b": plain(take_all("a"), let("x"), ("show", ("x",)))}
+        self.assertEqual((means(modules, "b"), means(modules)), (("own", B, "x"), ("own", B, "x")))
 
     def test_a_ring_of_both(self):
         modules = {"a": plain(take("b", "x")), "b": plain(take_all("a"))}
