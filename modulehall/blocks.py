@@ -30,6 +30,16 @@ def block_rows(rows):
     return listed
 
 
+def all_rows(rows):
+    """Return rows and all that are nested in them, in order."""
+    listed = []
+    for row in rows:
+        listed.append(row)
+        for part in nested(row):
+            listed.extend(all_rows(part))
+    return listed
+
+
 def declared(rows, word):
     """Return the names that a block declares with a word, top or outer."""
     return [name for row in block_rows(rows) if row[0] == word for name in row[1]]

@@ -1,14 +1,13 @@
 """How each path of a shelf would load."""
 
-from modulehall.errors import BadShelf, Fell
-from modulehall.shelves import Shelf
-from modulehall.worlds import MOST, World, check_most
+from modulehall.checks import check_most, check_shelf
+from modulehall.errors import Fell
+from modulehall.worlds import MOST, World
 
 
 def entries(shelf, *, most=MOST):
     """Return pairs of a path and how a new world loads it, for all paths of a shelf, in order."""
-    if not isinstance(shelf, Shelf):
-        raise BadShelf("not a shelf")
+    check_shelf(shelf)
     check_most(most)
     return [(path, entry(shelf, path, most)) for path in shelf.paths()]
 

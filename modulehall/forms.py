@@ -186,6 +186,12 @@ def nested(row):
     return row_parts(row, "rows")
 
 
+def with_nested(row, inside):
+    """Return a row with other tuples of rows directly inside it, in order."""
+    head = [part for kind, part in zip(ROWS[row[0]], row[1:]) if kind != "rows"]
+    return (row[0], *head, *inside)
+
+
 def names_in(expression):
     """Return the names that an expression reads, in order."""
     word = expression[0]

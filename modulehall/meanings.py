@@ -1,21 +1,17 @@
 """What a name of a module means, determined from the rows alone."""
 
 from modulehall.blocks import bindings, block_rows, own_declared
-from modulehall.errors import BadName, BadShelf, NoModule
-from modulehall.forms import LONGEST_PATH, is_name
-from modulehall.shelves import Shelf
+from modulehall.checks import check_found, check_name, check_path, check_shelf
+from modulehall.shelves import is_found, module_on
 from modulehall.sources import source
 
 
 def meaning(shelf, path, name):
     """Return what a name of a module on a shelf means."""
-    if not isinstance(shelf, Shelf):
-        raise BadShelf("not a shelf")
-    # The shelf itself raises BadPath.
-    if shelf.found(path) is None:
-        raise NoModule("not found")
-    if not is_name(name):
-        raise BadName("not a name")
+    check_shelf(shelf)
+    check_path(path)
+    check_found(shelf, path)
+    check_name(name)
     return resolved(shelf, path, name)
 
 
@@ -37,39 +33,32 @@ def resolved(shelf, path, name):
     return ("ring",)
 
 
-def is_found(shelf, path):
-    """Tell whether a path is found; None, for a from that leads nowhere, and longer paths are not."""
-    return path is not None and len(path) <= LONGEST_PATH and shelf.found(path) is not None
-
-
-def module_on(shelf, path):
-    """Return the sort and the rows of a module that is found."""
-    return shelf.held[shelf.found(path)][path]
-
-
 def senses(shelf, path, name):
     """Return what each binding of a name of a module means by itself.
 
     For a from this is `("from", p, x)`, where p is the path from which it takes x, or None.
     """
-    sort, rows = module_on(shelf, path)
-    listed = own_senses(shelf, path, name)
-    for row in from_alls(rows):
-        taken = source(path, sort, row)
-        if is_found(shelf, taken) and offers(shelf, taken, name, path):
-            listed.append(("from", taken, name))
-    return listed
+    return row_senses(shelf, path, name) + all_senses(shelf, path, name) + below_senses(shelf, path, name)
 
 
-def own_senses(shelf, path, name):
-    """Return what the bindings of a name mean, without those by from-all."""
+def row_senses(shelf, path, name):
+    """Return what the bindings mean by rows that name what they bind."""
     sort, rows = module_on(shelf, path)
-    listed = [sense(path, sort, name, row) for bound_name, row in bindings(rows) if bound_name == name]
+    return [sense(path, sort, name, row) for bound_name, row in bindings(rows) if bound_name == name]
+
+
+def all_senses(shelf, path, name):
+    """Return what the bindings by from-alls mean."""
+    sort, rows = module_on(shelf, path)
+    sources = [source(path, sort, row) for row in from_alls(rows)]
+    return [("from", each, name) for each in sources if is_found(shelf, each) and offers(shelf, each, name, path)]
+
+
+def below_senses(shelf, path, name):
+    """Return what a binding by a module below means, in a list, which is empty if there is none."""
     below = path + (name,)
     # Below a plain module nothing is found.
-    if is_found(shelf, below):
-        listed.append(("module", below))
-    return listed
+    return [("module", below)] if is_found(shelf, below) else []
 
 
 def sense(path, sort, name, row):
@@ -107,7 +96,7 @@ def offers(shelf, path, name, examined):
             if name in shown:
                 return True
         elif path not in passed and name not in (own_declared(rows, "hide") or ()):
-            if len(own_senses(shelf, path, name)) > 0:
+            if len(row_senses(shelf, path, name) + below_senses(shelf, path, name)) > 0:
                 return True
             sources = [source(path, sort, row) for row in from_alls(rows)]
             waiting.extend([each for each in sources if is_found(shelf, each)])

@@ -1,7 +1,7 @@
 """Shelves: places with modules, and where a path is found on them."""
 
 from modulehall.errors import BadPath, BadShelf
-from modulehall.forms import is_name, is_path, is_sort, is_tuple
+from modulehall.forms import LONGEST_PATH, is_name, is_path, is_sort, is_tuple
 from modulehall.validity import are_valid
 
 MOST_PLACES = 4
@@ -73,3 +73,13 @@ class Shelf:
         if sort == "wide":
             return list(self.order)
         return [place] if sort == "package" else []
+
+
+def is_found(shelf, path):
+    """Tell whether a path is found; None, for a from that leads nowhere, and longer paths are not."""
+    return path is not None and len(path) <= LONGEST_PATH and shelf.found(path) is not None
+
+
+def module_on(shelf, path):
+    """Return the sort and the rows of a module that is found."""
+    return shelf.held[shelf.found(path)][path]

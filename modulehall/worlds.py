@@ -1,17 +1,17 @@
 """Worlds: they load modules, keep what was loaded and said, and log what they were told to do."""
 
+from modulehall.checks import check_most, check_path
 from modulehall.copies import fresh
 from modulehall.editions import Edition
 from modulehall.engine import carry_out
-from modulehall.errors import BadDeed, BadEdition, BadName, BadNumber, BadPath, BadPlace, BadShelf, BadSort, NoModule
-from modulehall.forms import is_integer, is_name, is_path, is_sort, word_of
+from modulehall.errors import BadDeed, BadEdition, BadName, BadPlace, BadShelf, BadSort, NoModule
+from modulehall.forms import is_name, is_sort, word_of
 from modulehall.machine import Realm
 from modulehall.shelves import Shelf
 from modulehall.validity import check_rows
 from modulehall.values import told
 
 MOST = 500
-LARGEST_MOST = 2000
 MOST_EDITIONS = 3
 
 # How many items a row of a log has, with its word.
@@ -23,18 +23,6 @@ def are_shelves(shelves):
     if not isinstance(shelves, dict) or not 1 <= len(shelves) <= MOST_EDITIONS:
         return False
     return all([is_name(name) and isinstance(shelf, Shelf) for name, shelf in shelves.items()])
-
-
-def check_path(path):
-    """Raise BadPath unless a value is a path."""
-    if not is_path(path):
-        raise BadPath("not a path")
-
-
-def check_most(most):
-    """Raise BadNumber unless a value can be the number of rows that a command may run."""
-    if not is_integer(most, 0, LARGEST_MOST):
-        raise BadNumber("not a number of rows")
 
 
 def check_place(edition, place):
