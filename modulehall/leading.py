@@ -90,6 +90,6 @@ def readdressed_from(row, taken, reader, path, other):
     if taken == path:
         return without_dots(other, row[3])
     # A from that leads nowhere has no path to write without dots.
-    if reader == path and row[1] > 0 and taken is not None:
+    if reader == path and taken is not None:
         return without_dots(taken, row[3])
     return row

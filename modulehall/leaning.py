@@ -48,6 +48,6 @@ def bind_alike(shelf, path, other, name):
     if sense[0] == "module" and resolved(shelf, other, name) == sense:
         return True
     listed = row_senses(shelf, path, name)
-    # A from-all of the same module is no pair of a from, so that what other rows mean by themselves does not suffice.
-    same_pair = listed[0][0] == "from" and row_senses(shelf, other, name) == listed
+    # A from-all of the same module is no pair of a from, and a from that leads nowhere has no path.
+    same_pair = row_senses(shelf, other, name) == listed and listed[0][1] is not None
     return same_pair and len(senses(shelf, other, name)) == 1

@@ -9,7 +9,7 @@ from modulehall.graph import late_uses, rings, turn, uses
 from modulehall.moving import Moved
 from modulehall.shelves import Shelf
 from modulehall.worlds import World
-from tests.kit import ONE, let, package, path, plain, say, shelf, take, take_all, tell, use, wide
+from tests.kit import ONE, let, package, path, plain, say, shelf, take, take_all, use, wide
 
 # Modules that rows can load.
 TREE = {

@@ -3,7 +3,6 @@
 import ast
 import builtins
 import pathlib
-import re
 import unittest
 
 FOLDER = pathlib.Path(__file__).resolve().parent.parent / "modulehall"
@@ -81,6 +80,12 @@ class Language(unittest.TestCase):
                     self.assertIn(name.name, defined(TREES[file]), (stem, module))
                     self.assertIsNone(name.asname, (stem, module))
 
+    def test_what_is_imported_is_used(self):
+        for stem, tree in TREES.items():
+            used = {node.id for node in ast.walk(tree) if isinstance(node, ast.Name)}
+            for module, names in imported(tree):
+                self.assertEqual([name.name for name in names if name.name not in used], [], (stem, module))
+
     def test_imports_have_no_ring(self):
         left = {stem: {module.partition(".")[2] for module, _ in imported(tree)} for stem, tree in TREES.items()}
         while left:
@@ -155,6 +160,22 @@ class Language(unittest.TestCase):
                 if isinstance(node, ast.Call):
                     passed = [each.id for each in node.args if isinstance(each, ast.Name)]
                     self.assertFalse([each for each in passed if each in shared], (stem, node.lineno))
+
+    def test_errors_are_raised_by_the_name_of_their_class(self):
+        classes = [node.name for _, node in nodes(ast.ClassDef)]
+        for stem, node in nodes(ast.Raise):
+            self.assertTrue(node.exc is None or node.exc.func.id in classes, (stem, node.lineno))
+        for stem, node in nodes(ast.ExceptHandler):
+            self.assertIn(node.type.id, classes, (stem, node.lineno))
+
+    def test_nested_functions_assign_nothing_around_them(self):
+        for stem, outer in nodes(ast.FunctionDef):
+            for inner in ast.walk(outer):
+                if isinstance(inner, ast.FunctionDef) and inner != outer:
+                    around = {node.id for each in outer.body if each != inner for node in ast.walk(each) if isinstance(node, ast.Name)}
+                    around |= {each.arg for each in outer.args.args + outer.args.kwonlyargs}
+                    own = {node.id for node in ast.walk(inner) if isinstance(node, ast.Name) and isinstance(node.ctx, ast.Store)}
+                    self.assertEqual(own & around, set(), (stem, inner.lineno))
 
     def test_sets_are_not_written_out(self):
         for stem, node in nodes(ast.Set, ast.SetComp):

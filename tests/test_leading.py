@@ -9,7 +9,7 @@ from modulehall.leading import relocated
 from modulehall.moving import Cant, Moved
 from modulehall.shelves import Shelf
 from modulehall.worlds import World
-from tests.kit import ONE, call, dot, let, name, num, package, path, plain, say, shelf, take, take_all, tell, use, wide
+from tests.kit import ONE, call, dot, let, name, package, path, plain, say, shelf, take, take_all, tell, use, wide
 from tests.test_worlds import BAD_MOST
 
 FAIL = say("missing")
@@ -178,6 +178,7 @@ class Falls(unittest.TestCase):
 
     def test_modules_that_did_not_load_whole_before_do_not_count(self):
         self.assertIsNone(why({"p": plain(FAIL), "n": plain(use("p", "p"))}))
+        self.assertIsNone(why({"p": plain(), "n": plain(use("q", "q"))}))
 
     def test_other_outputs(self):
         # The new parent says something, too.

@@ -223,6 +223,8 @@ class FromAlls(unittest.TestCase):
     def test_a_module_that_is_not_found(self):
         self.assertEqual(means({"a": plain(take_all("none"))}), NONE)
         self.assertEqual(means({"a": plain(let("x"), take_all("none"), take_all("b", dots=2))}), ("own", A, "x"))
+        modules = {"a": plain(let("x"), take_all("b")), "b": plain(take_all("none"), take_all("b", dots=2))}
+        self.assertEqual(means(modules), ("own", A, "x"))
 
     def test_a_module_below(self):
         modules = {"a": plain(take_all("b")), "b": package(), "b.x": plain()}

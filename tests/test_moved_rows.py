@@ -7,7 +7,7 @@ from modulehall.entries import entries
 from modulehall.meanings import meaning
 from modulehall.moving import Cant, Moved, moved
 from modulehall.shelves import Shelf
-from tests.kit import ONE, let, name, num, package, path, plain, say, shelf, take, take_all, tell, use, wide
+from tests.kit import ONE, let, name, num, package, path, plain, say, shelf, take_all, tell, use, wide
 
 M, O = ("m",), ("o",)
 DEF = ("def", "x", (), (say("k"),))

@@ -222,18 +222,14 @@ class TakenLeaned(unittest.TestCase):
                     self.assertEqual(self.taken(mine, ("when", num(0), (), (binding,))), ("taken", "o"))
 
     def test_the_same_module(self):
-        tree = {"p": package(), "r": plain(use("p.q", "q"))}
-        others = {"r": plain(use("p.q", "q")), "p": package()}
+        others = {"r": plain(use("p.q", "q")), "p": package(), "p.q": plain()}
         ways = (
             use("p.q", "k"), ("lazy", ("p", "q"), "k"), ("from", 0, ("p",), (("q", "k"),)), ("from", 1, ("p",), (("q", "k"),)),
             ("from", 0, ("r",), (("q", "k"),)),
         )
-        self.assertEqual(sorted(tree), sorted(others))
         for mine in ways:
             for theirs in ways:
-                modules = {
-                    "m": plain(mine, ("def", "x", (), (say("k"),))), "o": plain(theirs), "p.q": plain(), **others,
-                }
+                modules = {"m": plain(mine, ("def", "x", (), (say("k"),))), "o": plain(theirs), **others}
                 with self.subTest(mine=mine, theirs=theirs):
                     if mine[0] == "lazy":
                         self.assertEqual(why(modules), ("leans", "m"))
@@ -270,6 +266,19 @@ class TakenLeaned(unittest.TestCase):
             ):
                 with self.subTest(modules=modules, theirs=theirs):
                     self.assertEqual(self.taken(mine, ("try", (theirs,), ()), **modules), ("taken", "o"))
+
+    def test_the_same_name_of_the_same_path_and_more(self):
+        mine = ("from", 0, ("r",), (("q", "k"),))
+        modules = {"m": plain(mine, ("def", "x", (), (say("k"),))), "r": plain(let("q")), "o": package(mine)}
+        self.assertIsNone(why(modules))
+        self.assertEqual(why({**modules, "o.k": plain()}), ("taken", "o"))
+        modules["o"] = package(mine, take_all("s"))
+        self.assertIsNone(why({**modules, "s": plain(let("z"))}))
+        self.assertEqual(why({**modules, "s": plain(let("k"))}), ("taken", "o"))
+
+    def test_froms_that_lead_nowhere_have_no_path(self):
+        mine = ("from", 2, ("r",), (("q", "k"),))
+        self.assertEqual(self.taken(mine, say("none"), mine), ("taken", "o"))
 
     def test_the_same_object_by_another_way_is_taken(self):
         mine = take("r", "k")
@@ -342,11 +351,16 @@ class Falls(unittest.TestCase):
         self.assertIsNone(why(modules))
         self.assertEqual(why({**modules, "n": plain(("try", (use("m", "m"),), (tell(1),)))}), None)
 
+    def test_modules_that_load_whole_only_afterwards_do_not_count(self):
+        self.assertIsNone(why_of(let("x"), n=plain(take("o", "x"), tell(1))))
+
     def test_other_outputs(self):
         self.assertEqual(why_of(let("x"), tell(1), other=(tell(2),)), ("falls", "m"))
         self.assertEqual(why_of(let("x"), other=(tell(2),)), ("falls", "m"))
         self.assertIsNone(why_of(use("o", "o"), let("x"), other=(tell(2),)))
-        self.assertEqual(why_of(("let", "x", num(1)), other=(let("y"),), n=plain(use("o", "o"), ("try", (("say", dot("o", "x")),), (tell(2),)))), ("falls", "n"))
+        user = plain(use("o", "o"), ("try", (("say", dot("o", "x")),), (tell(2),)))
+        self.assertEqual(why_of(let("x"), n=user), ("falls", "n"))
+        self.assertIsNone(why_of(let("x", 2), n=user))
 
     def test_other_outputs_in_another_module(self):
         # The output of o comes before that of n, where there was only that of n before.
@@ -382,11 +396,9 @@ class Falls(unittest.TestCase):
             self.assertIsNone(why({**modules, "n": plain(use("m", "m"), ("say", dot("m", "x")))}))
 
     def test_defs_of_other_names_differ(self):
-        other = (("def", "g", (), ()), ("def", "y", (), ()))
-        rows = (DEF, ("let", "z", name("x")), ("def", "y", (), ()), ("try", (take("o", "x"),), (let("x"),)))
-        self.assertEqual(why({"m": plain(*rows), "o": plain(*other)}), ("bound", "m"))
-        user = plain(use("m", "m"), use("o", "o"), ("try", (("say", dot("o", "x")),), (("say", dot("o", "y")),)))
-        self.assertEqual(why({"m": plain(DEF), "o": plain(*other), "n": user}), ("falls", "n"))
+        for y in (("def", "y", (), ()), ("box", "y", ())):
+            user = plain(use("m", "m"), use("o", "o"), ("try", (("say", dot("o", "x")),), (("say", dot("o", "y")),)))
+            self.assertEqual(why({"m": plain(DEF), "o": plain(y), "n": user}), ("falls", "n"))
 
     def test_modules_in_outputs(self):
         modules = {"m": plain(use("m", "me"), use("o", "o"), ("def", "x", (), ()), say("me"), say("o")), "o": plain()}

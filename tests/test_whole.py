@@ -5,7 +5,7 @@ import unittest
 
 from modulehall import entries, errors, graph, leading, meanings, moving, scopes, shelves, texts, worlds
 from modulehall.moving import Cant, Moved
-from tests.kit import let, package, plain, say, shelf, take, tell, use
+from tests.kit import let, package, plain, say, shelf, tell, use
 
 M, N, O = ("m",), ("n",), ("o",)
 ROWS = (let("x"), let("y"))
