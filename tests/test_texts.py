@@ -249,7 +249,7 @@ class Unreadable(unittest.TestCase):
                 f"say ( {bad} + 1 )", f"say ( f ( {bad} ) )",
             ):
                 self.check_line(line)
-        for bad in ("01", "00", "-0", "+1", "--1", "- 1", "-", "1.0", "1.", ".5", "1e3", "0x1", "1_0", "10000", "-10000", "9" * 5000, "\u0661", "\u00b2", "1,"):
+        for bad in ("01", "00", "-0", "1q", "q1", "+1", "--1", "- 1", "-", "1.0", "1.", ".5", "1e3", "0x1", "1_0", "10000", "-10000", "9" * 5000, "\u0661", "\u00b2", "1,"):
             for line in (f"say {bad}", f"let x = {bad}", f"when ( 1 + {bad} )", f"set {bad} . x = 1", f"give ( f ( {bad} ) )"):
                 self.check_line(line)
         for bad in ("a.b.c.d.e", "", ".", "a.", ".a", "a..b", "a.B", "a/b", "a.1", "a,b"):
